@@ -8,8 +8,9 @@ import (
 	"loop.example/g00277/impl"
 )
 
-func TestApplyOpTellsTheOpFault(t *testing.T) {
-	wrong := []impl.Op{
+// wrongOps are operations with a fault, of each kind and of none.
+func wrongOps() []impl.Op {
+	return []impl.Op{
 		{}, opOf(7, 3, 0, 0), opOf(-1, 3, 0, 0), opOf(math.MinInt64, 3, 0, 0), opOf(math.MaxInt64, 3, 0, 0),
 		opOf(impl.OpCreate, 3, 0, 0), opOf(impl.OpCreate, 3, 0, 17), opOf(impl.OpCreate, 3, 1, 1), opOf(impl.OpCreate, 100, 0, 1),
 		opOf(impl.OpWrite, 3, -1, 0), opOf(impl.OpWrite, 3, 16, 0), opOf(impl.OpWrite, 3, 0, -1), opOf(impl.OpWrite, 3, 0, 256),
@@ -19,7 +20,10 @@ func TestApplyOpTellsTheOpFault(t *testing.T) {
 		opOf(impl.OpSnap, 3, 0, 0), opOf(impl.OpSnap, 3, 0, 100), opOf(impl.OpSnap, 3, -1, 4), opOf(impl.OpSnap, 50, 0, math.MaxInt64),
 		opOf(impl.OpDelete, 3, 1, 0), opOf(impl.OpDelete, 3, 0, -1), opOf(impl.OpDelete, 0, 0, 0), opOf(impl.OpDelete, 100, 0, 0),
 	}
-	for _, o := range wrong {
+}
+
+func TestApplyOpTellsTheOpFault(t *testing.T) {
+	for _, o := range wrongOps() {
 		for _, p := range []impl.Pool{plainPool(), crowdedPool(), fullPool(), {}} {
 			wantPoolCode(t, "a wrong operation", impl.ApplyOp(p, o), impl.OpFault(o))
 		}
