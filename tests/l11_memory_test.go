@@ -36,12 +36,12 @@ func spansIn(v reflect.Value, path string) []span {
 	return list
 }
 
-// wantApart asks that no two lists of all the clusters have memory in common.
-func wantApart(t *testing.T, name string, clusters ...impl.Cluster) int {
+// wantApart asks that no two lists of all the values have memory in common.
+func wantApart(t *testing.T, name string, values ...any) int {
 	t.Helper()
 	var list []span
-	for _, c := range clusters {
-		list = append(list, spansIn(reflect.ValueOf(c), "Cluster")...)
+	for _, v := range values {
+		list = append(list, spansIn(reflect.ValueOf(v), reflect.TypeOf(v).String())...)
 	}
 	slices.SortFunc(list, func(a, b span) int { return cmp.Compare(a.from, b.from) })
 	for i := 1; i < len(list); i++ {
